@@ -14,14 +14,74 @@ PROMISE = 6
 MAY = 7
 ONE = 8
 CALL = 9
+PUT = 10
+WHOLE = 11
+OF = 12
+FREE = 13
+PAYS = 14
+WOULD = 15
+LOOK = 16
+RATE = 17
+STATE = 18
 
-# By a call's number: how many whole numbers it has, and whether a row comes behind them.
-PLAIN_NUMBERS = (3, 1, 1, 2, 0, 0, 0, 2, 0, 2)
-HAS_ROW = (False, True, False, False, False, False, True, True, True, False)
+# By a call's number: how many whole numbers it has.
+PLAIN_NUMBERS = (3, 1, 1, 2, 0, 0, 0, 2, 0, 2, 2, 0, 1, 0, 0, 2, 1, 0, 0)
 
 
-class NotBuilt(ValueError):
-    """A call whose number is told in the interface, but which isn't written yet."""
+def has_row(number):
+    """Whether a row comes behind the whole numbers of that call."""
+    return number in (THING, PROMISE, MAY, ONE, FREE, PAYS)
+
+
+def about_things(day, number, plain, row):
+    """The answer of a call that keeps what there is, or tells it; None if it's another call."""
+    if number == THING:
+        return day.thing(plain[0], row)
+    if number == DROP:
+        return day.drop(plain[0])
+    if number == PRICE:
+        return day.price(plain[0], plain[1])
+    if number == LOOK:
+        return day.look(plain[0])
+    if number == RATE:
+        return day.rate()
+    if number == STATE:
+        return day.state()
+    return None
+
+
+def about_fairness(day, number, plain, row):
+    """The answer of a call that asks for fairness, corners or some of each; None if it's another call."""
+    if number == FAIR:
+        return day.fair()
+    if number == WOULD:
+        return day.would(plain[0], plain[1])
+    if number == CORNERS:
+        return day.corners()
+    if number == WHOLE:
+        return day.whole()
+    if number == FREE:
+        return day.free(row)
+    if number == PAYS:
+        return day.pays(row)
+    return None
+
+
+def about_promises(day, number, plain, row):
+    """The answer of a call that asks what a promise may cost; None if it's another call."""
+    if number == PROMISE:
+        return day.promise(row)
+    if number == MAY:
+        return day.may(plain[0], plain[1], row)
+    if number == ONE:
+        return day.one(row)
+    if number == CALL:
+        return day.call(plain[0], plain[1])
+    if number == PUT:
+        return day.put(plain[0], plain[1])
+    if number == OF:
+        return day.of(plain[0])
+    return None
 
 
 def answered(day, number, plain, row):
@@ -30,23 +90,12 @@ def answered(day, number, plain, row):
         return day.begin(plain[0], plain[1], plain[2])
     if not day.begun:
         return [NOT_BEGUN]
-    if number == THING:
-        return day.thing(plain[0], row)
-    if number == DROP:
-        return day.drop(plain[0])
-    if number == PRICE:
-        return day.price(plain[0], plain[1])
-    if number == FAIR:
-        return day.fair()
-    if number == CORNERS:
-        return day.corners()
-    if number == PROMISE:
-        return day.promise(row)
-    if number == MAY:
-        return day.may(plain[0], plain[1], row)
-    if number == ONE:
-        return day.one(row)
-    return day.call(plain[0], plain[1])
+    answer = about_things(day, number, plain, row)
+    if answer is None:
+        answer = about_fairness(day, number, plain, row)
+    if answer is None:
+        answer = about_promises(day, number, plain, row)
+    return answer
 
 
 def answers(calls):
@@ -57,12 +106,10 @@ def answers(calls):
     while at < len(calls):
         number = calls[at]
         at += 1
-        if number > CALL:
-            raise NotBuilt("calls 10 to 18 are not built yet")
         plain = calls[at:at + PLAIN_NUMBERS[number]]
         at += len(plain)
         row = []
-        if HAS_ROW[number]:
+        if has_row(number):
             row = calls[at + 1:at + 1 + calls[at]]
             at += 1 + len(row)
         answer = answered(day, number, plain, row)

@@ -1,4 +1,4 @@
-"""What holds, a, b, c (as far as it shows b) and d, each shown by a witness that is checked by the document's own words.
+"""What holds, a to e, each shown by a witness that is checked by the document's own words.
 
 Fair: prices that fit, all more than nothing. Not fair: some of each that are money for nothing.
 From and to: corners that make the promise worth these; and some of each that pay no more (no less) than
@@ -7,115 +7,31 @@ the promise, whatever comes, and cost just that much: so no prices that fit make
 
 import unittest
 from fractions import Fraction
-from itertools import combinations
+from itertools import product
+from math import lcm
 
-from tests.helper import ask, begin, call, corners, fair, may, one, promise, thing
-
-
-class Numbers:
-    """Always the same numbers, which look as if they had no order."""
-
-    def __init__(self, seed):
-        self.seed = seed
-
-    def below(self, bound):
-        self.seed = (self.seed * 6364136223846793005 + 1442695040888963407) % 2 ** 64
-        return (self.seed >> 33) % bound
+from tests.helper import (Market, Numbers, call, corners, fair, free, may, of, one, pays, promise, put, rank, rate,
+                          times, whole, would)
 
 
-def times(some, numbers):
-    return sum(a * b for a, b in zip(some, numbers))
+def fraction(told, at):
+    return Fraction(told[at], told[at + 1])
 
 
-def solutions(rows, sums):
-    """The one solution of rows that are as many as their numbers, in a list; an empty one if it isn't one."""
-    size = len(rows)
-    rows = [[Fraction(number) for number in row] + [Fraction(end)] for row, end in zip(rows, sums)]
-    for column in range(size):
-        found = [number for number in range(column, size) if rows[number][column] != 0]
-        if not found:
-            return []
-        rows[column], rows[found[0]] = rows[found[0]], rows[column]
-        rows[column] = [number / rows[column][column] for number in rows[column]]
-        for number in range(size):
-            if number != column:
-                part = rows[number][column]
-                rows[number] = [a - part * b for a, b in zip(rows[number], rows[column])]
-    return [[row[size] for row in rows]]
+def bought_and_sold(pieces):
+    some = []
+    for number in pieces:
+        some += [max(number, 0), max(-number, 0)]
+    return some
 
 
-def rank(rows):
-    rows = [[Fraction(number) for number in row] for row in rows]
-    done = 0
-    for column in range(len(rows[0])):
-        found = [number for number in range(done, len(rows)) if rows[number][column] != 0]
-        if found:
-            rows[done], rows[found[0]] = rows[found[0]], rows[done]
-            for number in range(done + 1, len(rows)):
-                part = rows[number][column] / rows[done][column]
-                rows[number] = [a - part * b for a, b in zip(rows[number], rows[done])]
-            done += 1
-    return done
-
-
-class Market:
-    def __init__(self, n, p, b, things):
-        self.n = n
-        self.calls = [begin(n, p, b)] + [thing(cost, worths) for cost, worths in things]
-        self.costs = [p] + [cost for cost, worths in things]
-        self.pays = [[b] * n] + [worths for cost, worths in things]
-        # What can be made of the ones before adds nothing to what can be made: the witnesses do without.
-        self.free = []
-        for number in range(len(self.costs)):
-            kept = self.free + [number]
-            if rank([self.pays[k] + [self.costs[k]] for k in kept]) == len(kept):
-                self.free = kept
-
-    def ask(self, *made):
-        return ask(*self.calls, *made)[len(self.calls):]
-
-    def corners(self):
-        told = self.ask(corners())[0]
-        numbers = [Fraction(told[k], told[k + 1]) for k in range(1, len(told), 2)]
-        return [numbers[k:k + self.n] for k in range(0, len(numbers), self.n)]
-
-    def fits(self, prices):
-        return min(prices) >= 0 and all(times(pays, prices) == cost for pays, cost in zip(self.pays, self.costs))
-
-    def state_rows(self):
-        return [[self.pays[k][state] for k in self.free] for state in range(self.n)]
-
-    def cost_row(self):
-        return [self.costs[k] for k in self.free]
-
-    def is_money_for_nothing(self, some):
-        cost = times(some, self.cost_row())
-        paid = [times(some, row) for row in self.state_rows()]
-        return cost <= 0 and min(paid) >= 0 and (cost < 0 or max(paid) > 0)
-
-    def money_for_nothing(self):
-        """Some of each that are money for nothing, if there are any: on an edge of all that lose nothing."""
-        rows = self.state_rows() + [self.cost_row()]
-        for tight in combinations(rows, len(self.free) - 1):
-            for row in rows:
-                for size in (1, -1):
-                    for some in solutions(list(tight) + [row], [0] * len(tight) + [size]):
-                        if self.is_money_for_nothing(some):
-                            return some
-        return None
-
-    def costs_that_cover(self, pays, sign):
-        """What some of each cost that pay as much as the promise or more (sign 1), or less (sign -1)."""
-        rows = self.state_rows()
-        found = []
-        for tight in combinations(range(self.n), len(self.free)):
-            for some in solutions([rows[k] for k in tight], [pays[k] for k in tight]):
-                if all(sign * (times(some, row) - pay) >= 0 for row, pay in zip(rows, pays)):
-                    found.append(times(some, self.cost_row()))
-        return found
-
-    def can_make(self, pays):
-        return rank(self.pays) == rank(self.pays + [pays])
+def in_whole_pieces(market, some):
+    """Some of each that a market keeps, as whole numbers of pieces of all that it has."""
+    below = lcm(*[part.denominator for part in some])
+    pieces = [0] * len(market.costs)
+    for number, part in zip(market.kept, some):
+        pieces[number] = int(part * below)
+    return pieces
 
 
 def markets():
@@ -164,6 +80,43 @@ class HoldsTest(unittest.TestCase):
                 self.assertIsNotNone(market.money_for_nothing(), market.calls)
         self.assertGreater(min(seen.values()), 300)
 
+    def test_a_what_is_money_for_nothing_is_told_as_such(self):
+        seen = 0
+        for market in self.markets:
+            found = market.money_for_nothing()
+            if found is not None:
+                pieces = in_whole_pieces(market, found)
+                if max(abs(number) for number in pieces) <= 1000:
+                    seen += 1
+                    told = market.ask(free(bought_and_sold(pieces)))[0]
+                    self.assertEqual(told, [1, times(pieces, market.costs)])
+        self.assertGreater(seen, 300)
+
+    def test_a_where_it_is_fair_none_are_money_for_nothing(self):
+        seen = {0: 0, 1: 0}
+        for market in self.markets[::5]:
+            bound = 6 if len(market.costs) < 3 else 3
+            tried = [bought_and_sold(pieces) for pieces in product(range(-bound, bound + 1), repeat=len(market.costs))]
+            asked = market.ask(fair(), *[free(some) for some in tried])
+            if asked[0] == [1]:
+                self.assertEqual({told[0] for told in asked[1:]}, {0})
+            seen[asked[0][0]] += 1
+        self.assertGreater(min(seen.values()), 60)
+
+    def test_free_and_pays_are_as_some_of_each_are_told(self):
+        numbers = Numbers(19)
+        seen = {0: 0, 1: 0}
+        for market in self.markets:
+            for bound in (2, 4, 1001):
+                some = [numbers.below(bound) for number in range(2 * len(market.costs))]
+                pieces = [some[k] - some[k + 1] for k in range(0, len(some), 2)]
+                cost = times(pieces, market.costs)
+                paid = [times(pieces, row) for row in zip(*market.pays)]
+                nothing = cost <= 0 and min(paid) >= 0 and (cost < 0 or max(paid) > 0)
+                seen[int(nothing)] += 1
+                self.assertEqual(market.ask(free(some), pays(some)), [[int(nothing), cost], [market.n, cost] + paid])
+        self.assertGreater(min(seen.values()), 200)
+
     def test_corners_fit_and_are_in_order(self):
         for market in self.markets:
             found = market.corners()
@@ -172,24 +125,13 @@ class HoldsTest(unittest.TestCase):
             for prices in found:
                 self.assertTrue(market.fits(prices))
                 chosen = [state for state in range(market.n) if prices[state] != 0]
-                columns = [[pays[state] for pays in market.pays] for state in chosen]
+                columns = [[row[state] for row in market.pays] for state in chosen]
                 # Columns of which none is made of the others: no other prices are 0 wherever these are.
                 self.assertEqual(rank(columns), len(chosen))
 
     def test_every_corner_is_told(self):
         for market in self.markets:
-            expected = []
-            rows = [pays + [cost] for pays, cost in zip(market.pays, market.costs)]
-            for size in range(1, market.n + 1):
-                for chosen in combinations(range(market.n), size):
-                    for some in combinations(rows, size):
-                        for found in solutions([[row[k] for k in chosen] for row in some], [row[-1] for row in some]):
-                            prices = [Fraction(0)] * market.n
-                            for state, price in zip(chosen, found):
-                                prices[state] = price
-                            if min(found) > 0 and market.fits(prices) and prices not in expected:
-                                expected.append(prices)
-            self.assertEqual(market.corners(), expected)
+            self.assertEqual(market.corners(), market.expected_corners())
 
     def test_fractions_are_in_lowest_terms(self):
         for market in self.markets:
@@ -203,42 +145,99 @@ class HoldsTest(unittest.TestCase):
         for market in self.markets:
             if market.ask(fair()) == [[1]]:
                 found = market.corners()
-                for pays in self.promises_of(market, numbers):
-                    told = market.ask(promise(pays))[0]
+                for promised in self.promises_of(market, numbers):
+                    told = market.ask(promise(promised))[0]
                     least, greatest = Fraction(told[1], told[2]), Fraction(told[3], told[4])
                     self.assertEqual([least.numerator, least.denominator], told[1:3])
                     self.assertEqual([greatest.numerator, greatest.denominator], told[3:])
-                    worths = [times(prices, pays) for prices in found]
+                    worths = [times(prices, promised) for prices in found]
                     self.assertTrue(least in worths and greatest in worths)
-                    self.assertEqual(min(market.costs_that_cover(pays, 1)), greatest)
-                    self.assertEqual(max(market.costs_that_cover(pays, -1)), least)
+                    self.assertEqual(min(market.costs_that_cover(promised, 1)), greatest)
+                    self.assertEqual(max(market.costs_that_cover(promised, -1)), least)
+
+    def test_c_what_pays_as_much_costs_as_much_or_more(self):
+        numbers = Numbers(23)
+        seen = {"more": 0, "just as much": 0}
+        for market in self.markets:
+            if market.ask(fair()) == [[1]]:
+                for bound in (3, 9, 101):
+                    some = [numbers.below(bound) for number in range(2 * len(market.costs))]
+                    told = market.ask(pays(some))[0]
+                    for less in (1, 1 + numbers.below(5)):
+                        promised = [min(1000, max(0, paid - numbers.below(less))) for paid in told[2:]]
+                        if all(paid >= pay for paid, pay in zip(told[2:], promised)):
+                            to = fraction(market.ask(promise(promised))[0], 3)
+                            self.assertGreaterEqual(told[1], to)
+                            seen["just as much" if told[1] == to else "more"] += 1
+        self.assertGreater(min(seen.values()), 300)
+
+    def test_d_what_is_made_costs_as_what_it_is_made_of(self):
+        numbers = Numbers(29)
+        seen = 0
+        for market in self.markets:
+            if market.ask(fair()) == [[1]]:
+                for bound in (2, 3, 6):
+                    some = [numbers.below(bound) for number in range(2 * len(market.costs))]
+                    told = market.ask(pays(some))[0]
+                    if 0 <= min(told[2:]) and max(told[2:]) <= 1000:
+                        seen += 1
+                        self.assertEqual(market.ask(promise(told[2:]))[0], [1, told[1], 1, told[1], 1])
+        self.assertGreater(seen, 300)
+
+    def test_d_it_is_whole_exactly_when_all_can_be_made(self):
+        seen = {0: 0, 1: 0}
+        for market in self.markets:
+            told = market.ask(whole())[0]
+            if market.ask(fair()) == [[0]]:
+                self.assertEqual(told, [-16])
+            else:
+                self.assertEqual(told, [1 if rank(market.pays) == market.n else 0])
+                seen[told[0]] += 1
+        self.assertGreater(min(seen.values()), 100)
 
     def test_d_one_price_exactly_when_it_can_be_made(self):
         numbers = Numbers(13)
         seen = {0: 0, 1: 0}
         for market in self.markets:
             if market.ask(fair()) == [[1]]:
-                for pays in self.promises_of(market, numbers):
-                    told = market.ask(one(pays), promise(pays))
-                    expected = 1 if market.can_make(pays) else 0
+                for promised in self.promises_of(market, numbers):
+                    told = market.ask(one(promised), promise(promised))
+                    expected = 1 if market.can_make(promised) else 0
                     seen[expected] += 1
                     self.assertEqual(told[0], [expected])
                     self.assertEqual(told[1][0], expected)
+        self.assertGreater(min(seen.values()), 300)
+
+    def test_e_a_right_to_buy_less_a_right_to_sell(self):
+        numbers = Numbers(31)
+        seen = {0: 0, 1: 0}
+        for market in self.markets:
+            if market.ask(fair()) == [[1]]:
+                lent = fraction(market.ask(rate())[0], 1)
+                for t, worths in enumerate(market.pays[1:]):
+                    between = [min(worths) + numbers.below(1 + max(worths) - min(worths)) for again in range(4)]
+                    for k in sorted({0, min(worths), max(worths), numbers.below(1001), 1000, *between}):
+                        bought, sold = market.ask(call(t, k), put(t, k))
+                        self.assertEqual(bought[0], sold[0])
+                        seen[bought[0]] += 1
+                        # By each corner they differ by just as much, so from and to do too.
+                        for at in (1, 3):
+                            self.assertEqual(fraction(bought, at) - fraction(sold, at), market.costs[1 + t] - k * lent)
         self.assertGreater(min(seen.values()), 300)
 
     def test_may_is_as_from_and_to_tell(self):
         numbers = Numbers(17)
         for market in self.markets:
             if market.ask(fair()) == [[1]]:
-                for pays in self.promises_of(market, numbers):
-                    told = market.ask(promise(pays))[0]
+                for promised in self.promises_of(market, numbers):
+                    told = market.ask(promise(promised))[0]
                     least, greatest = Fraction(told[1], told[2]), Fraction(told[3], told[4])
                     middle = (least + greatest) / 2
                     for asked in (least, greatest, middle, least + Fraction(1, 97), greatest - Fraction(1, 97)):
                         x, y = asked.numerator, asked.denominator
                         if 0 <= x <= 1000000 and y <= 1000:
                             inside = least < asked < greatest or least == asked == greatest
-                            self.assertEqual(market.ask(may(x, y, pays)), [[1 if inside else 0]])
+                            self.assertEqual(market.ask(may(x, y, promised)), [[1 if inside else 0]])
 
     def test_a_right_to_buy_is_as_its_promise(self):
         for market in self.markets:
@@ -247,11 +246,40 @@ class HoldsTest(unittest.TestCase):
                     told = market.ask(call(t, k), promise([max(worth - k, 0) for worth in worths]))
                     self.assertEqual(told[0], told[1])
 
+    def test_a_right_to_sell_is_as_its_promise(self):
+        for market in self.markets:
+            for t, worths in enumerate(market.pays[1:]):
+                for k in sorted({0, 1, min(worths), max(worths), sum(worths) // len(worths), 1000}):
+                    told = market.ask(put(t, k), promise([max(k - worth, 0) for worth in worths]))
+                    self.assertEqual(told[0], told[1])
+
+    def test_of_is_as_its_promise(self):
+        for market in self.markets:
+            for c in range(market.n):
+                told = market.ask(of(c), promise([1 if state == c else 0 for state in range(market.n)]))
+                self.assertEqual(told[0], told[1])
+
+    def test_it_would_be_fair_if_it_is_at_that_price(self):
+        numbers = Numbers(37)
+        seen = {0: 0, 1: 0}
+        for market in self.markets[::3]:
+            for t in range(len(market.costs) - 1):
+                for p in (market.costs[1 + t], numbers.below(4), numbers.below(1 + max(market.pays[1 + t]))):
+                    things = list(zip(market.costs, market.pays))[1:]
+                    things[t] = (p, things[t][1])
+                    priced = Market(market.n, market.costs[0], market.pays[0][0], things)
+                    expected = 1 if priced.money_for_nothing() is None else 0
+                    self.assertEqual(market.ask(would(t, p)), [[expected]])
+                    seen[expected] += 1
+        self.assertGreater(min(seen.values()), 300)
+
     def test_refused_where_it_is_not_fair(self):
         for market in self.markets:
-            pays = [1] * market.n
+            ones = [1] * market.n
             refused = market.ask(fair()) == [[0]]
-            for told in market.ask(promise(pays), one(pays), may(1, 1, pays)):
+            made = [promise(ones), one(ones), may(1, 1, ones), whole(), of(0), of(market.n - 1)]
+            made += [right(t, 3) for t in range(len(market.costs) - 1) for right in (call, put)]
+            for told in market.ask(*made):
                 self.assertEqual(told == [-16], refused)
 
 

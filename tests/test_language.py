@@ -1,6 +1,7 @@
 """The package keeps to the part of Python that it is written in, as far as can be seen from its files."""
 
 import ast
+import builtins
 import re
 import unittest
 from pathlib import Path
@@ -101,6 +102,15 @@ class LanguageTest(unittest.TestCase):
                 self.assertRegex(name, "^[A-Za-z]")
             read = {node.id for node in ast.walk(tree) if isinstance(node, ast.Name)}
             self.assertEqual(sorted(read - bound - BUILT_IN), [])
+
+    def test_no_local_is_called_like_an_import_or_a_class(self):
+        for path in files():
+            tree = ast.parse(path.read_text(encoding="ascii"))
+            taken = {node.name for node in ast.walk(tree) if isinstance(node, (ast.alias, ast.ClassDef))}
+            local = {node.arg for node in ast.walk(tree) if isinstance(node, ast.arg)}
+            local |= {node.id for node in ast.walk(tree) if isinstance(node, ast.Name) and isinstance(node.ctx, ast.Store)}
+            self.assertEqual(sorted(taken & local), [])
+            self.assertEqual(sorted(local & set(dir(builtins))), [])
 
     def test_methods(self):
         own = {node.name for name, node in nodes() if isinstance(node, ast.FunctionDef)}
